@@ -1,0 +1,26 @@
+"""The plain kinds of values that all other files build on."""
+
+
+def is_integer(value):
+    """Whether any value is an INTEGER: an int that is no bool."""
+    return isinstance(value, int) and not isinstance(value, bool)
+
+
+def is_count(value):
+    """Whether any value is a COUNT: an INTEGER that is at least 0."""
+    return is_integer(value) and value >= 0
+
+
+def is_name(value):
+    """Whether any value is a NAME: a string of one to eight letters from a to z."""
+    if not isinstance(value, str) or not 1 <= len(value) <= 8:
+        return False
+    return all(["a" <= letter <= "z" for letter in value])
+
+
+def is_name_list(value):
+    """Whether any value is a list or tuple of different NAMES, perhaps empty."""
+    if not isinstance(value, (list, tuple)):
+        return False
+    # Names first: other values may be such that no set takes them.
+    return all([is_name(name) for name in value]) and len(set(value)) == len(value)

@@ -1,0 +1,81 @@
+"""What several test files share."""
+
+import itertools
+import string
+import unittest
+
+from evenloads.ratios import Ratio
+from evenloads.yards import Yard
+
+# Values of every other kind, none of them a NUMBER, a NAME, a list, a tuple or a dict.
+STRANGE = [None, True, False, b"a", object(), {"a"}, frozenset(["a"]), range(2), Ratio, len]
+
+# No NAMES, of whatever kind.
+NO_NAMES = STRANGE + ["", "abcdefghi", "A", "aB", "a1", "1", "a b", " a", "a ", "a_b", "a\n", "-", "`", "{",
+                      0, 1, Ratio(1), [], ["a"], (), ("a",), {}, {"a": 1}]
+
+# No NUMBERS, of whatever kind.
+NO_NUMBERS = STRANGE + ["", "1", "3/4", "a", [], [1], (), (1, 2), {}, {1: 2}, [Ratio(1)]]
+
+# Those of them that may be keys of a dict.
+NO_NAME_KEYS = [value for value in NO_NAMES if not isinstance(value, (list, dict, set, Ratio))]
+
+# NUMBERS below 0: no AMOUNTS.
+BELOW = [-1, -10 ** 29, Ratio(-1), Ratio(-1, 10 ** 29), Ratio(3, -4)]
+
+NO_AMOUNTS = NO_NUMBERS + BELOW
+
+NO_SPEEDS = NO_NUMBERS + [0, -1, 1001, 10 ** 29, Ratio(1), Ratio(3, 2), Ratio(1000)]
+
+
+def example():
+    """The yard of the document's examples."""
+    return Yard({"a": 1, "b": 1, "c": 2}, {"x": (6, ["a", "b"]), "y": (2, ["b", "c"]), "z": (1, ["c"])})
+
+
+def names(first, many):
+    """So many sorted names that begin with this letter: sa, sb, .. or, of more than 26, saaa, saab, .."""
+    tails = itertools.product(string.ascii_lowercase, repeat=1 if many <= 26 else 3)
+    return [first + "".join(tail) for tail in itertools.islice(tails, many)]
+
+
+def no_lists():
+    """Values that are neither a list nor a tuple."""
+    return STRANGE + [0, 1, "", "a", "abc", {}, {"a": 1}, Ratio(1), example()]
+
+
+def no_sets(servers):
+    """Values that are no list of different ones of these servers, at least one."""
+    server, last = servers[0], servers[-1]
+    found = no_lists() + [[], (), [server, server], (last, server, last), [*servers, server], [[server]],
+                          [(server,)], ((server, last),), [server, None], [server, ["b"]], [server, {}], [server, 1]]
+    for name in NO_NAMES + ["q", "x", "zz", server + last]:
+        found = found + [[name], (server, name), [name, server]]
+    return found
+
+
+class Case(unittest.TestCase):
+    """A test case with the checks that several files need."""
+
+    def fails(self, error, told, call, /, *args, **named):
+        """A call raises an error of just this class, whose attributes are as told."""
+        with self.assertRaises(error) as caught:
+            call(*args, **named)
+        self.assertIs(caught.exception.__class__, error)
+        for name, value in told.items():
+            found = getattr(caught.exception, name)
+            self.assertIs(found.__class__, value.__class__, name)
+            self.assertEqual(found, value)
+        return caught.exception
+
+    def same_ratio(self, found, top, bottom=1):
+        """A value is the Ratio with just this top and bottom, both plain integers."""
+        self.assertIs(found.__class__, Ratio)
+        self.assertEqual((found.top, found.bottom), (top, bottom))
+        self.assertIs(found.top.__class__, int)
+        self.assertIs(found.bottom.__class__, int)
+
+    def same_integer(self, found, wanted):
+        """A value is just this plain integer."""
+        self.assertIs(found.__class__, int)
+        self.assertEqual(found, wanted)

@@ -1,0 +1,83 @@
+"""The interface: each function and class stands in its file, each method in the body of its class."""
+
+import importlib
+import inspect
+import pathlib
+import subprocess
+import sys
+import unittest
+
+import evenloads
+
+PACKAGE = pathlib.Path(evenloads.__file__).parent
+
+FUNCTIONS = {
+    "basics": {"is_integer": "value", "is_count": "value", "is_name": "value"},
+}
+
+# Methods by what kind of attribute of the class they are, each with its parameters behind self.
+CLASSES = {
+    "ratios": {"Ratio": {
+        "plain": {"__init__": "top bottom", "over": "other", "compare": "other", "floor": "", "ceiling": "",
+                  "__add__": "other", "__radd__": "other", "__sub__": "other", "__rsub__": "other",
+                  "__mul__": "other", "__rmul__": "other", "__floordiv__": "other", "__rfloordiv__": "other",
+                  "__mod__": "other", "__rmod__": "other", "__neg__": "", "__abs__": "", "__eq__": "other",
+                  "__str__": "", "__repr__": ""},
+        "static": {"of": "value", "read": "text"},
+        "property": ["top", "bottom"]}},
+    "yards": {"Yard": {
+        "plain": {"__init__": "speeds tasks", "servers": "", "tasks": "", "speed": "server", "work": "task",
+                  "places": "task", "__len__": "", "__contains__": "x", "__eq__": "other", "confined": "servers",
+                  "weight": "servers", "speed_of": "servers", "density": "servers", "__add__": "other",
+                  "__sub__": "other", "__or__": "other", "with_work": "task work", "with_place": "task server",
+                  "without_place": "task server", "with_server": "server speed tasks",
+                  "with_speed": "server speed", "scaled": "factor"},
+        "static": {"jobs": "servers places"},
+        "property": ["total", "is_whole"]}},
+}
+
+
+def parameters(function):
+    return list(inspect.signature(function).parameters)
+
+
+class InterfaceTest(unittest.TestCase):
+
+    def test_functions(self):
+        for file, functions in FUNCTIONS.items():
+            module = importlib.import_module("evenloads." + file)
+            for name, wanted in functions.items():
+                found = getattr(module, name)
+                self.assertEqual(found.__module__, module.__name__)
+                self.assertEqual(found.__name__, name)
+                self.assertEqual(parameters(found), wanted.split(), name)
+
+    def test_classes(self):
+        for file, classes in CLASSES.items():
+            module = importlib.import_module("evenloads." + file)
+            for name, members in classes.items():
+                made = getattr(module, name)
+                self.assertEqual((made.__module__, made.__name__), (module.__name__, name))
+                self.assertEqual(made.__bases__, (object,))
+                body = vars(made)
+                for method, wanted in members["plain"].items():
+                    self.assertTrue(inspect.isfunction(body[method]), method)
+                    self.assertEqual(parameters(body[method])[1:], wanted.split(), method)
+                for method, wanted in members["static"].items():
+                    self.assertIsInstance(body[method], staticmethod, method)
+                    self.assertEqual(parameters(body[method].__func__), wanted.split(), method)
+                for word in members["property"]:
+                    self.assertIsInstance(body[word], property, word)
+
+    def test_the_package_is_one_folder_that_can_be_imported(self):
+        self.assertEqual(PACKAGE.name, "evenloads")
+        self.assertTrue((PACKAGE / "__init__.py").is_file())
+        for file in sorted(PACKAGE.glob("*.py")):
+            name = "evenloads" if file.stem == "__init__" else "evenloads." + file.stem
+            done = subprocess.run([sys.executable, "-W", "error", "-c", "import " + name], cwd=PACKAGE.parent,
+                                  capture_output=True, text=True)
+            self.assertEqual((done.returncode, done.stdout, done.stderr), (0, "", ""), name)
+
+
+if __name__ == "__main__":
+    unittest.main()

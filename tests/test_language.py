@@ -1,0 +1,187 @@
+"""Rules of LANGUAGE.md that can be seen in the text of the package; the others are for the reader."""
+
+import ast
+import builtins
+import io
+import pathlib
+import re
+import tokenize
+import unittest
+
+PACKAGE = pathlib.Path(__file__).resolve().parent.parent / "evenloads"
+
+ALLOWED_BUILTINS = """len range enumerate zip min max sum abs sorted reversed int str bool bytes list tuple dict set
+    frozenset isinstance ord repr any all divmod pow getattr hasattr setattr iter next map type Exception ValueError
+    TypeError KeyError IndexError LookupError ZeroDivisionError ArithmeticError OverflowError RuntimeError
+    NotImplementedError AttributeError StopIteration NotImplemented property staticmethod classmethod super""".split()
+ALLOWED_DOUBLES = """init eq repr str len enter exit call iter lt le gt ge ne add sub mul floordiv mod pow and or xor
+    lshift rshift radd rsub rmul rfloordiv rmod rand ror rxor rlshift rrshift iadd isub imul ifloordiv imod ipow iand
+    ior ixor ilshift irshift neg pos invert abs bool contains getitem setitem""".split()
+LIBRARY = {
+    "heapq": ["heappush", "heappop", "heapify", "heapreplace", "heappushpop"],
+    "math": ["gcd", "lcm", "isqrt", "comb", "perm", "factorial"],
+    "itertools": ["product", "combinations", "permutations", "chain", "accumulate", "pairwise", "islice",
+                  "zip_longest"],
+    "collections": ["defaultdict", "deque"],
+}
+BARRED_NAMES = """register mro elements open input law version_info with_traceback add_note attrgetter breakpoint
+    builtins compile copyright credits delattr dir eval exec exit gc globals help id importlib license locals
+    methodcaller os quit vars sys""".split()
+BARRED_WORDS = """typing typing_extensions enum Enum IntEnum StrEnum Flag IntFlag Generic Protocol ABC ABCMeta
+    namedtuple NamedTuple TypedDict TYPE_CHECKING abstractmethod""".split()
+BARRED_NODES = (ast.AsyncFunctionDef, ast.AsyncFor, ast.AsyncWith, ast.Await, ast.Div, ast.MatMult, ast.Global)
+BUILTIN_METHODS = """append clear copy count endswith extend find get index insert isalnum isalpha isdigit islower
+    isspace isupper items join keys ljust lower lstrip partition pop remove replace reverse rfind rjust rpartition
+    rsplit rstrip setdefault split splitlines startswith strip update upper values zfill bit_length title capitalize
+    swapcase casefold center expandtabs removeprefix removesuffix rindex isascii isdecimal isnumeric istitle
+    isidentifier isprintable add discard""".split()
+
+
+def trees():
+    """Tuples (name, text, tree) of all files of the package."""
+    found = []
+    for path in sorted(PACKAGE.rglob("*.py")):
+        text = path.read_text(encoding="utf-8")
+        found.append((path.name, text, ast.parse(text)))
+    return found
+
+
+def nodes(*kinds):
+    """Tuples (name, node) of all nodes of these kinds in the package."""
+    return [(name, node) for name, _, tree in trees() for node in ast.walk(tree) if isinstance(node, kinds)]
+
+
+def docstrings(tree):
+    """The nodes of all docstrings of a file."""
+    holders = (ast.Module, ast.ClassDef, ast.FunctionDef)
+    return [node.body[0].value for node in ast.walk(tree)
+            if isinstance(node, holders) and ast.get_docstring(node, clean=False) is not None]
+
+
+class LanguageTest(unittest.TestCase):
+
+    def test_l1_l14_only_files_of_plain_names(self):
+        for path in PACKAGE.rglob("*"):
+            if "__pycache__" in path.parts:
+                continue
+            self.assertTrue(path.is_dir() or path.suffix == ".py", path)
+            self.assertRegex(path.stem, r"\A[a-z0-9_]+\Z")
+
+    def test_l2_l16_imports(self):
+        for name, node in nodes(ast.Import, ast.ImportFrom):
+            self.assertIsInstance(node, ast.ImportFrom, name)
+            self.assertEqual(node.level, 0, name)
+            for alias in node.names:
+                if node.module in LIBRARY:
+                    self.assertIn(alias.name, LIBRARY[node.module])
+                    self.assertIsNone(alias.asname)
+                else:
+                    self.assertTrue(node.module.startswith("evenloads."), node.module)
+                    file = PACKAGE / (node.module.split(".", 1)[1] + ".py")
+                    defined = [one.name for one in ast.parse(file.read_text()).body
+                               if isinstance(one, (ast.ClassDef, ast.FunctionDef))]
+                    self.assertIn(alias.name, defined, name)
+
+    def test_l3_module_level(self):
+        for name, _, tree in trees():
+            for node in tree.body:
+                self.assertIsInstance(node, (ast.Expr, ast.ImportFrom, ast.ClassDef, ast.FunctionDef, ast.Assign), name)
+                if isinstance(node, ast.Expr):
+                    self.assertIn(node.value, docstrings(tree))
+
+    def test_l4_l5_decorators(self):
+        for name, node in nodes(ast.FunctionDef, ast.ClassDef):
+            for decorator in node.decorator_list:
+                self.assertRegex(ast.unparse(decorator), r"\A(property|staticmethod|classmethod|\w+\.setter)\Z", name)
+
+    def test_l5_double_underscores(self):
+        for name, node in nodes(ast.FunctionDef):
+            if node.name.startswith("__"):
+                self.assertIn(node.name, [f"__{word}__" for word in ALLOWED_DOUBLES], name)
+
+    def test_l5_no_augmented_assignment_beside_operators(self):
+        for name, node in nodes(ast.AugAssign):
+            self.fail(f"{name}:{node.lineno}")
+
+    def test_l6_l7_l27_signs_and_values(self):
+        for name, node in nodes(*BARRED_NODES):
+            self.fail(f"{name}: {ast.dump(node)}")
+        for name, _, tree in trees():
+            told = docstrings(tree)
+            for node in ast.walk(tree):
+                if isinstance(node, ast.Constant) and node not in told:
+                    self.assertNotIsInstance(node.value, (float, complex), name)
+                    if isinstance(node.value, str):
+                        self.assertNotIn("%", node.value, name)
+                        self.assertFalse(node.value.startswith("__"), name)
+
+    def test_l8_l15_builtins(self):
+        for name, node in nodes(ast.Name):
+            if hasattr(builtins, node.id):
+                self.assertIsInstance(node.ctx, ast.Load, (name, node.id))
+                self.assertIn(node.id, ALLOWED_BUILTINS, (name, node.lineno))
+        for name, node in nodes(ast.arg):
+            self.assertFalse(hasattr(builtins, node.arg), (name, node.arg))
+
+    def test_l10_sizes(self):
+        for name, text, tree in trees():
+            rows = text.split("\n")
+            self.assertLessEqual(len(rows), 400, name)
+            for row in rows:
+                self.assertLessEqual(len(row), 120, name)
+            for node in ast.walk(tree):
+                if isinstance(node, ast.FunctionDef):
+                    self.assertLessEqual(node.end_lineno - node.lineno + 1, 40, (name, node.name))
+
+    def test_l12_l17_names(self):
+        for name, node in nodes(ast.Name, ast.arg, ast.FunctionDef, ast.ClassDef, ast.Attribute, ast.keyword):
+            word = getattr(node, {"Name": "id", "Attribute": "attr", "FunctionDef": "name", "ClassDef": "name"}.get(
+                node.__class__.__name__, "arg"))
+            self.assertRegex(word, r"\A(_?[A-Za-z][A-Za-z0-9_]*|__\w+__|_)\Z", name)
+            self.assertNotIn(word, BARRED_NAMES, name)
+            self.assertIsNone(re.match(r"_(pe|dcw|enum|cm|twin_re|lay|law|stub|sre|wall|WallAttr)", word), name)
+
+    def test_l14_characters(self):
+        for name, text, _ in trees():
+            self.assertRegex(text, r"\A[ -~\n]*\Z", name)
+
+    def test_l17_words(self):
+        for name, text, tree in trees():
+            rows = [node.lineno for node in docstrings(tree)]
+            for token in tokenize.generate_tokens(io.StringIO(text).readline):
+                if token.type == tokenize.COMMENT or token.start[0] in rows:
+                    continue
+                for word in re.findall(r"\w+", token.string):
+                    self.assertNotIn(word, BARRED_WORDS, name)
+                    self.assertIsNone(re.search("dataclass|overload|contextmanager", word), name)
+
+    def test_l18_no_name_is_an_attribute_and_a_method(self):
+        methods, attributes = [], []
+        for _, made in nodes(ast.ClassDef):
+            methods.extend(node.name for node in made.body if isinstance(node, ast.FunctionDef))
+        for _, node in nodes(ast.Attribute):
+            if isinstance(node.ctx, ast.Store):
+                attributes.append(node.attr)
+        self.assertEqual(sorted(set(methods) & set(attributes)), [])
+
+    def test_l19_handlers(self):
+        for name, node in nodes(ast.ExceptHandler):
+            self.assertIsNotNone(node.type, name)
+            self.assertNotIn(ast.unparse(node.type), ["Exception", "TypeError", "ArithmeticError", "OverflowError",
+                                                      "RuntimeError", "NotImplementedError", "AttributeError"], name)
+
+    def test_l20_is(self):
+        for name, node in nodes(ast.Compare):
+            for sign, right in zip(node.ops, node.comparators):
+                if isinstance(sign, (ast.Is, ast.IsNot)):
+                    self.assertIn(ast.unparse(right), ["None", "True", "False"], name)
+
+    def test_l25_methods(self):
+        own = [node.name for _, node in nodes(ast.FunctionDef)]
+        for name, node in nodes(ast.Call):
+            if isinstance(node.func, ast.Attribute):
+                self.assertIn(node.func.attr, own + BUILTIN_METHODS, (name, node.lineno))
+
+
+if __name__ == "__main__":
+    unittest.main()
