@@ -24,3 +24,14 @@ def is_name_list(value):
         return False
     # Names first: other values may be such that no set takes them.
     return all([is_name(name) for name in value]) and len(set(value)) == len(value)
+
+
+def sorted_names(names):
+    """The sorted list of some NAMES, whatever holds them."""
+    # What is sorted here is plainly text; moves have an order of their own, and are never sorted.
+    return sorted([str(name) for name in names])
+
+
+def least_count(counts):
+    """The least of a list of COUNTS, at least one."""
+    return min([int(count) for count in counts])

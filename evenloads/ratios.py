@@ -1,6 +1,6 @@
 """Exact fractions, the numbers of the package."""
 
-from math import gcd
+from math import gcd, lcm
 
 from evenloads.basics import is_integer
 from evenloads.errors import DividedByZero, InvalidNumber
@@ -149,7 +149,38 @@ def is_amount(value):
 
 def sum_of(numbers):
     """The sum of a list of NUMBERS, a Ratio also where there are none."""
-    total = Ratio(0)
-    for number in numbers:
-        total = total + number
-    return total
+    ratios = [Ratio.of(number) for number in numbers]
+    # With one common bottom the lowest terms are looked for once, not behind each number.
+    bottom = common_bottom(ratios)
+    return Ratio(sum([ratio.top * (bottom // ratio.bottom) for ratio in ratios]), bottom)
+
+
+def common_bottom(ratios):
+    """The least INTEGER above 0 that all bottoms of a list of Ratios divide, 1 where there are none."""
+    common = 1
+    for ratio in ratios:
+        common = lcm(common, ratio.bottom)
+    return common
+
+
+def whole_parts(ratio, unit):
+    """How often a Ratio has the unit-th part of 1, an INTEGER; its bottom must divide the unit."""
+    return ratio.top * (unit // ratio.bottom)
+
+
+def greatest_of(ratios):
+    """The greatest one of a list of Ratios, at least one."""
+    greatest = ratios[0]
+    for ratio in ratios:
+        if ratio.compare(greatest) > 0:
+            greatest = ratio
+    return greatest
+
+
+def least_of(ratios):
+    """The least one of a list of Ratios, at least one."""
+    least = ratios[0]
+    for ratio in ratios:
+        if ratio.compare(least) < 0:
+            least = ratio
+    return least

@@ -1,6 +1,6 @@
 """Yards: servers with their speeds, and tasks with their works and places."""
 
-from evenloads.basics import is_integer, is_name, is_name_list
+from evenloads.basics import is_integer, is_name, is_name_list, sorted_names
 from evenloads.errors import InvalidName, InvalidServers, InvalidSpeed, InvalidTask, InvalidTasks
 from evenloads.errors import InvalidWork, InvalidYard, LastPlace, OtherServers, PlaceTaken, ServerTaken
 from evenloads.errors import TaskTaken, TooMany, UnknownPlace, UnknownServer, UnknownTask
@@ -23,16 +23,16 @@ class Yard:
         if len(given) > Yard.MOST_TASKS:
             raise TooMany("tasks", Yard.MOST_TASKS)
         # Sorted once here, so that every dict and list made of these is sorted, too.
-        self._speeds = {server: speeds[server] for server in sorted(speeds)}
-        self._works = {task: Ratio.of(given[task][0]) for task in sorted(given)}
-        self._places = {task: tuple(sorted(given[task][1])) for task in sorted(given)}
+        self._speeds = {server: speeds[server] for server in sorted_names(speeds)}
+        self._works = {task: Ratio.of(given[task][0]) for task in sorted_names(given)}
+        self._places = {task: tuple(sorted_names(given[task][1])) for task in sorted_names(given)}
 
     @staticmethod
     def jobs(servers, **places):
         """The whole yard with these servers and with jobs that have these places."""
         if not is_name_list(servers) or len(servers) == 0:
             raise InvalidServers(servers)
-        for job in sorted(places):
+        for job in sorted_names(places):
             if not is_name(job) or not is_set_of(places[job], servers):
                 raise InvalidTask(job)
         return Yard({server: 1 for server in servers}, {job: (1, places[job]) for job in places})
@@ -237,7 +237,7 @@ def check_speeds(speeds):
     """Raise the error that is due if this is no dict of servers and their speeds."""
     if not is_name_dict(speeds) or len(speeds) == 0:
         raise InvalidServers(speeds)
-    for server in sorted(speeds):
+    for server in sorted_names(speeds):
         if not is_speed(speeds[server]):
             raise InvalidSpeed(server)
 
@@ -246,6 +246,6 @@ def check_tasks(tasks, servers):
     """Raise the error that is due if this is no dict of tasks with places among these servers."""
     if not is_name_dict(tasks):
         raise InvalidTasks(tasks)
-    for name in sorted(tasks):
+    for name in sorted_names(tasks):
         if not is_task(tasks[name], servers):
             raise InvalidTask(name)

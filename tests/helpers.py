@@ -4,6 +4,8 @@ import itertools
 import string
 import unittest
 
+from evenloads.moves import Gift, Move
+from evenloads.plans import Plan
 from evenloads.ratios import Ratio
 from evenloads.yards import Yard
 
@@ -28,9 +30,42 @@ NO_AMOUNTS = NO_NUMBERS + BELOW
 NO_SPEEDS = NO_NUMBERS + [0, -1, 1001, 10 ** 29, Ratio(1), Ratio(3, 2), Ratio(1000)]
 
 
+# No Yards, no Plans and no Gifts, of whatever kind.
+OTHERS = STRANGE + ["", "a", 0, 1, Ratio(1), [], ["a"], (), ("x", "a"), {}, {"a": 1}, Move("x", "a", "b")]
+NO_YARDS = OTHERS + [Yard, Plan, Plan(Yard({"a": 1}), {}), Gift(1, Move("x", "a", "b")), {"x": (1, ["a"])}]
+NO_PLANS = OTHERS + [Yard, Plan, Yard({"a": 1}), Gift(1, Move("x", "a", "b")), {("x", "a"): 1}]
+NO_GIFTS = OTHERS + [Gift, Yard({"a": 1}), Plan(Yard({"a": 1}), {}), [Move("x", "a", "b")],
+                     (Gift(1, Move("x", "a", "b")),)]
+
+# No servers and no tasks of the document's example, of whatever kind.
+NO_SERVERS = NO_NAMES + ["d", "x", "ab", "server", ["a", "b"], ("x", "a")]
+NO_TASKS = NO_NAMES + ["a", "w", "xy", "task", ["x"], ("x", "y"), ("x", "a")]
+
+# Each method and operator that makes a yard of another one, one after the other from the document's example on.
+CHANGES = [lambda yard: yard.with_work("x", 1), lambda yard: yard.with_place("z", "a"),
+           lambda yard: yard + ("w", Ratio(7, 2), ["b"]), lambda yard: yard.with_server("d", 2, "w", "x"),
+           lambda yard: yard - "y", lambda yard: yard.with_speed("d", 1), lambda yard: yard.scaled(Ratio(3, 2)),
+           lambda yard: yard.without_place("z", "c"),
+           lambda yard: yard | Yard({"a": 1, "b": 1, "c": 2, "d": 1}, {"y": (4, ["b", "d"])})]
+
+
 def example():
     """The yard of the document's examples."""
     return Yard({"a": 1, "b": 1, "c": 2}, {"x": (6, ["a", "b"]), "y": (2, ["b", "c"]), "z": (1, ["c"])})
+
+
+def example_plan():
+    """The plan of the document's examples, which is not best."""
+    return Plan(example(), {("x", "a"): 4, ("x", "b"): 2, ("y", "b"): 2, ("z", "c"): 1})
+
+
+def no_bounds(servers):
+    """Values that are no bounds of these servers."""
+    right = {server: 1 for server in servers}
+    fewer = {server: 1 for server in servers[1:]}
+    found = NO_AMOUNTS + [fewer, {**right, "q": 1}, {**fewer, "q": 1}, {**right, "q": None}, {**right, None: 1},
+                          {**fewer, "x": 1}, list(right), tuple(right.items()), list(right.items()), example()]
+    return found + [{**right, server: value} for server in servers for value in NO_AMOUNTS]
 
 
 def names(first, many):

@@ -13,6 +13,10 @@ PACKAGE = pathlib.Path(evenloads.__file__).parent
 
 FUNCTIONS = {
     "basics": {"is_integer": "value", "is_count": "value", "is_name": "value"},
+    "moves": {"is_chain": "value"},
+    "bounds": {"is_within": "plan bounds", "plan_within": "yard bounds", "bar": "yard bounds",
+               "is_bar": "yard bounds value", "place_all": "yard bounds", "least_top": "yard", "top_set": "yard"},
+    "answers": {"answer": "yard bounds", "exact_top": "yard"},
 }
 
 # Methods by what kind of attribute of the class they are, each with its parameters behind self.
@@ -34,7 +38,32 @@ CLASSES = {
                   "with_speed": "server speed", "scaled": "factor"},
         "static": {"jobs": "servers places"},
         "property": ["total", "is_whole"]}},
+    "moves": {
+        "Move": {
+            "plain": {"__init__": "task start goal", "__lt__": "other", "__le__": "other", "__gt__": "other",
+                      "__ge__": "other", "__eq__": "other", "__neg__": "", "__str__": "", "__repr__": ""},
+            "static": {},
+            "property": ["task", "start", "goal"]},
+        "Gift": {
+            "plain": {"__init__": "amount moves", "moves": "", "__len__": "", "__neg__": "", "__eq__": "other"},
+            "static": {"single": "amount task start goal"},
+            "property": ["amount", "start", "goal"]}},
+    "plans": {"Plan": {
+        "plain": {"__init__": "yard amounts", "__getitem__": "at", "amounts": "", "ties": "", "load": "server",
+                  "loads": "", "__eq__": "other", "above": "bound", "never_dearer": "plan", "parting": "plan",
+                  "mix": "plan share", "__rshift__": "other", "__or__": "other", "is_possible": "gift",
+                  "is_downhill": "gift"},
+        "static": {"first": "yard", "shared": "yard"},
+        "property": ["yard", "top"]}},
+    "answers": {
+        "Answer": {"plain": {"__init__": "about", "told": ""}, "static": {}, "property": []},
+        "Shown": {"plain": {"__init__": "about layout", "told": ""}, "static": {}, "property": []},
+        "Barred": {"plain": {"__init__": "about barring", "told": ""}, "static": {}, "property": []},
+        "Exact": {"plain": {"__init__": "about layout barring", "told": ""}, "static": {}, "property": []}},
 }
+
+# All other classes have no bases.
+BASES = {"Shown": ["Answer"], "Barred": ["Answer"], "Exact": ["Shown", "Barred"]}
 
 
 def parameters(function):
@@ -58,7 +87,7 @@ class InterfaceTest(unittest.TestCase):
             for name, members in classes.items():
                 made = getattr(module, name)
                 self.assertEqual((made.__module__, made.__name__), (module.__name__, name))
-                self.assertEqual(made.__bases__, (object,))
+                self.assertEqual([base.__name__ for base in made.__bases__], BASES.get(name, ["object"]))
                 body = vars(made)
                 for method, wanted in members["plain"].items():
                     self.assertTrue(inspect.isfunction(body[method]), method)

@@ -51,6 +51,18 @@ def nodes(*kinds):
     return [(name, node) for name, _, tree in trees() for node in ast.walk(tree) if isinstance(node, kinds)]
 
 
+def scopes(tree):
+    """Tuples of each function of a file and the nodes in it."""
+    return [(node, list(ast.walk(node))) for node in ast.walk(tree) if isinstance(node, ast.FunctionDef)]
+
+
+def is_created(value):
+    """Whether a value is plainly a new list or dict: a literal, a comprehension, or a copy."""
+    if isinstance(value, (ast.List, ast.Dict, ast.ListComp, ast.DictComp)):
+        return True
+    return isinstance(value, ast.Call) and isinstance(value.func, ast.Name) and value.func.id in ("list", "dict")
+
+
 def docstrings(tree):
     """The nodes of all docstrings of a file."""
     holders = (ast.Module, ast.ClassDef, ast.FunctionDef)
@@ -103,6 +115,51 @@ class LanguageTest(unittest.TestCase):
         for name, node in nodes(ast.AugAssign):
             self.fail(f"{name}:{node.lineno}")
 
+    def test_l5_only_plain_numbers_and_strings_are_compared_beside_an_order(self):
+        for name, node in nodes(ast.Call):
+            if isinstance(node.func, ast.Name) and node.func.id in ("sorted", "min", "max"):
+                self.assertEqual((len(node.args), node.keywords), (1, []), (name, node.lineno))
+                self.assertIsInstance(node.args[0], ast.ListComp, (name, node.lineno))
+                self.assertRegex(ast.unparse(node.args[0].elt), r"\A(str|int|len)\(", (name, node.lineno))
+
+    def test_l5_no_kept_or_reversed_order_and_no_sorting_in_place(self):
+        for name, node in nodes(ast.Call):
+            self.assertNotIn(ast.unparse(node.func).split(".")[-1], ["reversed", "sort"], (name, node.lineno))
+
+    def test_l5_what_has_items_is_not_iterated_over(self):
+        found = []
+        for name, made in nodes(ast.ClassDef):
+            methods = {node.name: node for node in made.body if isinstance(node, ast.FunctionDef)}
+            if "__getitem__" in methods:
+                found.append(made.name)
+                self.assertRegex(ast.unparse(methods["__iter__"].body[0]), r"\Araise TypeError\('", made.name)
+        self.assertEqual(found, ["Plan"])
+
+    def test_l5_only_what_a_function_created_is_changed_but_in_flows(self):
+        for name, _, tree in trees():
+            if name == "flows.py":
+                continue
+            for function, inside in scopes(tree):
+                created = {}
+                for node in inside:
+                    for target in node.targets if isinstance(node, ast.Assign) else []:
+                        if isinstance(target, ast.Name):
+                            created.setdefault(target.id, []).append(is_created(node.value))
+                        self.assertTrue(not isinstance(target, ast.Attribute) or function.name == "__init__",
+                                        (name, node.lineno))
+                changed = [node.value for node in inside
+                           if isinstance(node, ast.Subscript) and isinstance(node.ctx, (ast.Store, ast.Del))]
+                changed.extend(node.func.value for node in inside if isinstance(node, ast.Call)
+                               and isinstance(node.func, ast.Attribute) and node.func.attr in ("append", "pop"))
+                for value in changed:
+                    base = value.value if isinstance(value, ast.Subscript) else value
+                    self.assertIsInstance(base, ast.Name, (name, value.lineno))
+                    self.assertTrue(created[base.id] and all(created[base.id]), (name, value.lineno))
+
+    def test_l7_lists_instead_of_generator_expressions(self):
+        for name, node in nodes(ast.GeneratorExp):
+            self.fail(f"{name}:{node.lineno}")
+
     def test_l6_l7_l27_signs_and_values(self):
         for name, node in nodes(*BARRED_NODES):
             self.fail(f"{name}: {ast.dump(node)}")
@@ -141,6 +198,23 @@ class LanguageTest(unittest.TestCase):
             self.assertNotIn(word, BARRED_NAMES, name)
             self.assertIsNone(re.match(r"_(pe|dcw|enum|cm|twin_re|lay|law|stub|sre|wall|WallAttr)", word), name)
 
+    def test_l12_what_is_called_underscore_is_never_read(self):
+        for name, node in nodes(ast.Name):
+            self.assertTrue(node.id != "_" or isinstance(node.ctx, ast.Store), (name, node.lineno))
+
+    def test_l15_no_local_name_is_that_of_a_class_or_an_import(self):
+        for name, _, tree in trees():
+            taken = [node.name for node in tree.body if isinstance(node, (ast.ClassDef, ast.FunctionDef))]
+            for node in tree.body:
+                if isinstance(node, ast.ImportFrom):
+                    taken.extend(alias.name for alias in node.names)
+            self.assertEqual(len(taken), len(set(taken)), name)
+            for node in ast.walk(tree):
+                if isinstance(node, ast.arg):
+                    self.assertNotIn(node.arg, taken, (name, node.lineno))
+                if isinstance(node, ast.Name) and isinstance(node.ctx, ast.Store):
+                    self.assertNotIn(node.id, taken, (name, node.lineno))
+
     def test_l14_characters(self):
         for name, text, _ in trees():
             self.assertRegex(text, r"\A[ -~\n]*\Z", name)
@@ -154,6 +228,13 @@ class LanguageTest(unittest.TestCase):
                 for word in re.findall(r"\w+", token.string):
                     self.assertNotIn(word, BARRED_WORDS, name)
                     self.assertIsNone(re.search("dataclass|overload|contextmanager", word), name)
+
+    def test_l17_words_beside_items(self):
+        for name, text, _ in trees():
+            for word in ("(type)", "Meta", "metaclass="):
+                self.assertNotIn(word, text, name)
+            for token in tokenize.generate_tokens(io.StringIO(text).readline):
+                self.assertNotEqual(token.string, "type", name)
 
     def test_l18_no_name_is_an_attribute_and_a_method(self):
         methods, attributes = [], []
@@ -175,6 +256,14 @@ class LanguageTest(unittest.TestCase):
             for sign, right in zip(node.ops, node.comparators):
                 if isinstance(sign, (ast.Is, ast.IsNot)):
                     self.assertIn(ast.unparse(right), ["None", "True", "False"], name)
+
+    def test_l23_generators_are_iterated_at_once(self):
+        made = [node.name for _, node in nodes(ast.FunctionDef)
+                if any(isinstance(inner, (ast.Yield, ast.YieldFrom)) for inner in ast.walk(node))]
+        iterated = [ast.unparse(node.iter) for _, node in nodes(ast.For, ast.comprehension)]
+        for name, node in nodes(ast.Call):
+            if ast.unparse(node.func).split(".")[-1] in made:
+                self.assertIn(ast.unparse(node), iterated, (name, node.lineno))
 
     def test_l25_methods(self):
         own = [node.name for _, node in nodes(ast.FunctionDef)]

@@ -1,0 +1,136 @@
+"""Works that are spread over places and shifted along chains of moves, in whole numbers of one small unit."""
+
+from evenloads.basics import least_count, sorted_names
+from evenloads.ratios import Ratio
+
+
+class Flow:
+    """How much of each task lies where, and how much room is left; unlike a plan, it is filled and shifted."""
+
+    def __init__(self, places, rooms, unit):
+        self._places = places
+        self._free = dict(rooms)
+        self._unit = unit
+        self._held = {server: {} for server in rooms}
+
+    def fill(self, works):
+        """Place as much of all works as there is room for; the tasks of which something is left."""
+        left = []
+        for task in works:
+            if self._place(task, works[task]) > 0:
+                left.append(task)
+        return left
+
+    def closure(self, tasks):
+        """The sorted list of the servers to which chains lead from the places of some tasks."""
+        starts = {}
+        for task in tasks:
+            for place in self._places[task]:
+                starts[place] = True
+        return sorted_names(reached(list(starts), self._held, self._places, None))
+
+    def draw_in(self, task, server):
+        """Bring as much of a task to one of its places as the others can make room for.
+
+        Return the sorted list of the servers that keep it from more.
+        """
+        while True:
+            found = reached([server], self._held, self._places, task)
+            others = [place for place in found if place != server and task in self._held[place]]
+            if len(others) == 0:
+                return sorted_names(found)
+            chain = chain_to(found, others[0])
+            self._shift(chain + [(task, others[0], server)])
+
+    def drive_out(self, task, server):
+        """Bring as much of a task from one of its places to the other ones as the others can make room for.
+
+        Return the sorted list of the servers that keep it from more.
+        """
+        others = [place for place in self._places[task] if place != server]
+        while True:
+            found = reached(others, self._held, self._places, task)
+            if server not in found or task not in self._held[server]:
+                return sorted_names(found)
+            chain = chain_to(found, server)
+            self._shift(chain + [(task, server, chain[0][1])])
+
+    def amount_at(self, task, server):
+        """How much of a task lies at a server, a Ratio."""
+        return Ratio(self._held[server].get(task, 0), self._unit)
+
+    def amounts(self):
+        """The dict of the amounts above 0, from tuples (task, server) to Ratios."""
+        return {(task, server): self.amount_at(task, server) for server in self._held for task in self._held[server]}
+
+    def _place(self, task, work):
+        """Place as much of a work as there is room for, and tell what is left."""
+        left = work
+        while left > 0:
+            found = reached(self._places[task], self._held, self._places, None)
+            goals = [server for server in found if self._free[server] > 0]
+            if len(goals) == 0:
+                return left
+            chain = chain_to(found, goals[0])
+            amount = least_count([left, self._free[goals[0]]] + self._given_along(chain))
+            self._shift_by(chain, amount)
+            self._add(task, chain[0][1] if len(chain) > 0 else goals[0], amount)
+            self._free[goals[0]] = self._free[goals[0]] - amount
+            left = left - amount
+        return 0
+
+    def _given_along(self, chain):
+        """How much each move of a chain could take along."""
+        return [self._held[start][task] for task, start, _ in chain]
+
+    def _shift(self, chain):
+        """Shift as much as possible along a chain that comes back to where it starts."""
+        self._shift_by(chain, least_count(self._given_along(chain)))
+
+    def _shift_by(self, chain, amount):
+        """Shift an amount along a chain."""
+        for task, start, goal in chain:
+            self._add(task, start, -amount)
+            self._add(task, goal, amount)
+
+    def _add(self, task, server, amount):
+        """Change how much of a task lies at a server; what is 0 is not kept, as it makes no move possible."""
+        held = self._held[server]
+        held[task] = held.get(task, 0) + amount
+        if held[task] == 0:
+            del held[task]
+
+
+def reached(starts, held, places, barred):
+    """The dict of the servers to which chains lead from some servers, the nearest ones first.
+
+    Tasks move from where they are held to any of their places; the barred one does not. Each server has the tuple
+    (task, start) of the last move of a shortest chain to it; the starts have None.
+    """
+    found = {server: None for server in starts}
+    # A task reaches all its places at once, so that it is asked only at the first server that holds it.
+    asked = {barred: True}
+    queue = list(starts)
+    at = 0
+    while at < len(queue):
+        server = queue[at]
+        at = at + 1
+        for task in held[server]:
+            if task not in asked:
+                asked[task] = True
+                for goal in places[task]:
+                    if goal not in found:
+                        found[goal] = (task, server)
+                        queue.append(goal)
+    return found
+
+
+def chain_to(found, goal):
+    """The shortest chain to one of the servers that were reached, a list of tuples (task, start, goal)."""
+    chain = []
+    server = goal
+    while found[server] is not None:
+        task, start = found[server]
+        chain.append((task, start, server))
+        server = start
+    return chain[::-1]
