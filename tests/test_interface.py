@@ -17,6 +17,12 @@ FUNCTIONS = {
     "bounds": {"is_within": "plan bounds", "plan_within": "yard bounds", "bar": "yard bounds",
                "is_bar": "yard bounds value", "place_all": "yard bounds", "least_top": "yard", "top_set": "yard"},
     "answers": {"answer": "yard bounds", "exact_top": "yard"},
+    "best": {"best_plan": "yard", "best_loads": "yard", "levels": "yard", "is_best": "plan", "first_fault": "plan"},
+    "gifts": {"gifts_to_best": "plan", "is_leading": "plan value", "led": "plan"},
+    "spans": {"least_places": "yard task", "span": "yard task server", "room": "yard servers",
+              "claim": "yard task servers", "cap": "yard task server servers", "lift": "yard task server servers",
+              "capping_set": "yard task server", "lifting_set": "yard task server", "sure_places": "yard",
+              "spare_places": "yard", "plan_giving": "yard task server amount"},
 }
 
 # Methods by what kind of attribute of the class they are, each with its parameters behind self.
@@ -55,6 +61,11 @@ CLASSES = {
                   "is_downhill": "gift"},
         "static": {"first": "yard", "shared": "yard"},
         "property": ["yard", "top"]}},
+    "costs": {"Cost": {
+        "plain": {"__init__": "lines", "__call__": "load", "of_plan": "plan", "lines": "", "__add__": "other",
+                  "__eq__": "other"},
+        "static": {"hinge": "bound"},
+        "property": []}},
     "answers": {
         "Answer": {"plain": {"__init__": "about", "told": ""}, "static": {}, "property": []},
         "Shown": {"plain": {"__init__": "about layout", "told": ""}, "static": {}, "property": []},
