@@ -13,9 +13,8 @@ def is_count(value):
 
 def is_name(value):
     """Whether any value is a NAME: a string of one to eight letters from a to z."""
-    if not isinstance(value, str) or not 1 <= len(value) <= 8:
-        return False
-    return all(["a" <= letter <= "z" for letter in value])
+    # The empty string is not alphabetic.
+    return isinstance(value, str) and len(value) <= 8 and value.isascii() and value.isalpha() and value.islower()
 
 
 def is_name_list(value):

@@ -9,7 +9,8 @@ class Flow:
 
     def __init__(self, places, rooms, unit):
         self._places = places
-        self._free = dict(rooms)
+        # Only servers with room are kept here.
+        self._free = {server: rooms[server] for server in rooms if rooms[server] > 0}
         self._unit = unit
         self._held = {server: {} for server in rooms}
 
@@ -27,7 +28,7 @@ class Flow:
         for task in tasks:
             for place in self._places[task]:
                 starts[place] = True
-        return sorted_names(reached(list(starts), self._held, self._places, None))
+        return sorted_names(reached(list(starts), self._held, self._places))
 
     def draw_in(self, task, server):
         """Bring as much of a task to one of its places as the others can make room for.
@@ -67,47 +68,59 @@ class Flow:
         """Place as much of a work as there is room for, and tell what is left."""
         left = work
         while left > 0:
-            found = reached(self._places[task], self._held, self._places, None)
-            goals = [server for server in found if self._free[server] > 0]
+            found = reached(self._places[task], self._held, self._places, None, self._free)
+            goals = [server for server in found if server in self._free]
             if len(goals) == 0:
                 return left
             chain = chain_to(found, goals[0])
-            amount = least_count([left, self._free[goals[0]]] + self._given_along(chain))
-            self._shift_by(chain, amount)
-            self._add(task, chain[0][1] if len(chain) > 0 else goals[0], amount)
-            self._free[goals[0]] = self._free[goals[0]] - amount
+            amount = least_count([left, self._free[goals[0]]] + given_along(chain, self._held))
+            shift(chain, amount, self._held)
+            hold_more(task, chain[0][1] if len(chain) > 0 else goals[0], amount, self._held)
+            self._take(goals[0], amount)
             left = left - amount
         return 0
 
-    def _given_along(self, chain):
-        """How much each move of a chain could take along."""
-        return [self._held[start][task] for task, start, _ in chain]
+    def _take(self, server, amount):
+        """Take an amount from the room that is left at a server."""
+        self._free[server] = self._free[server] - amount
+        if self._free[server] == 0:
+            del self._free[server]
 
     def _shift(self, chain):
         """Shift as much as possible along a chain that comes back to where it starts."""
-        self._shift_by(chain, least_count(self._given_along(chain)))
-
-    def _shift_by(self, chain, amount):
-        """Shift an amount along a chain."""
-        for task, start, goal in chain:
-            self._add(task, start, -amount)
-            self._add(task, goal, amount)
-
-    def _add(self, task, server, amount):
-        """Change how much of a task lies at a server; what is 0 is not kept, as it makes no move possible."""
-        held = self._held[server]
-        held[task] = held.get(task, 0) + amount
-        if held[task] == 0:
-            del held[task]
+        shift(chain, least_count(given_along(chain, self._held)), self._held)
 
 
-def reached(starts, held, places, barred):
+def given_along(chain, held):
+    """How much each move of a chain could take along."""
+    return [held[start][task] for task, start, _ in chain]
+
+
+def shift(chain, amount, held):
+    """Shift an amount along a chain."""
+    for task, start, goal in chain:
+        hold_more(task, start, -amount, held)
+        hold_more(task, goal, amount, held)
+
+
+def hold_more(task, server, amount, held):
+    """Change how much of a task is held by a server; what is 0 is not kept, as it makes no move possible."""
+    there = held[server]
+    there[task] = there.get(task, 0) + amount
+    if there[task] == 0:
+        del there[task]
+
+
+def reached(starts, held, places, barred=None, wanted=()):
     """The dict of the servers to which chains lead from some servers, the nearest ones first.
 
     Tasks move from where they are held to any of their places; the barred one does not. Each server has the tuple
-    (task, start) of the last move of a shortest chain to it; the starts have None.
+    (task, start) of the last move of a shortest chain to it; the starts have None. The search ends where it comes to a
+    server that is wanted.
     """
     found = {server: None for server in starts}
+    if any([server in wanted for server in starts]):
+        return found
     # A task reaches all its places at once, so that it is asked only at the first server that holds it.
     asked = {barred: True}
     queue = list(starts)
@@ -122,6 +135,8 @@ def reached(starts, held, places, barred):
                     if goal not in found:
                         found[goal] = (task, server)
                         queue.append(goal)
+                        if goal in wanted:
+                            return found
     return found
 
 

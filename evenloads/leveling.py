@@ -1,7 +1,7 @@
 """The levels of a yard with a best way to fill each: where best loads, best plans and spans come from."""
 
 from evenloads.flows import Flow
-from evenloads.ratios import common_bottom, sum_of, whole_parts
+from evenloads.ratios import Ratio, all_whole_parts, common_bottom, whole_parts
 
 
 def leveled(yard):
@@ -9,14 +9,20 @@ def leveled(yard):
 
     The flow has all works of the level's tasks at the level's servers, which are their least places.
     """
+    ratios = {task: yard.work(task) for task in yard.tasks()}
+    bottom = common_bottom(list(ratios.values()))
+    works = all_whole_parts(ratios, bottom)
     found = []
-    parts = [(yard.servers(), {task: yard.places(task) for task in yard.tasks()})]
+    parts = [(yard.servers(), {task: yard.places(task) for task in works})]
     while len(parts) > 0:
         servers, places = parts.pop()
-        load = sum_of([yard.work(task) for task in places]).over(yard.speed_of(servers))
-        flow, left = even_flow(yard, places, {server: load for server in servers})
+        work = sum([works[task] for task in places])
+        speed = yard.speed_of(servers)
+        # In parts as small as these the same load everywhere is whole, too.
+        flow = Flow(places, {server: work * yard.speed(server) for server in servers}, bottom * speed)
+        left = flow.fill({task: works[task] * speed for task in places})
         if len(left) == 0:
-            found.append((load, servers, list(places), flow))
+            found.append((Ratio(work, bottom * speed), servers, list(places), flow))
         else:
             inner, outer = divided(servers, places, flow.closure(left))
             # The one that is popped first has the greater loads.

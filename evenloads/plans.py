@@ -1,11 +1,13 @@
 """Plans: how much of each task's work lies at each of its places, and the loads that this makes."""
 
-from evenloads.basics import is_name
+from math import lcm
+
 from evenloads.checks import check_server, check_task, check_yard
 from evenloads.errors import Impossible, InvalidAmounts, InvalidGift, InvalidNumber, InvalidPlan, InvalidShare
 from evenloads.errors import OtherYard, WrongSum
 from evenloads.moves import Gift
-from evenloads.ratios import Ratio, greatest_of, is_amount, is_number, sum_of
+from evenloads.ratios import Ratio, all_whole_parts, common_bottom, greatest_of, is_amount, is_number, whole_parts
+from evenloads.yards import pairs_of, speeds_of, works_of
 
 
 class Plan:
@@ -17,21 +19,30 @@ class Plan:
             raise InvalidAmounts(amounts)
         self._yard = yard
         self._amounts = positive_amounts(yard, amounts)
-        check_sums(yard, self._amounts)
-        self._loads = loads_of(yard, self._amounts)
+        # The same in whole numbers of one small unit, which sums and comparisons are much faster with.
+        self._unit = common_bottom(list(self._amounts.values()))
+        self._parts = all_whole_parts(self._amounts, self._unit)
+        self._gained = gained_from(yard, self._parts, self._unit)
+        self._loads = {server: Ratio(self._gained[server], self._unit * speed)
+                       for server, speed in speeds_of(yard).items()}
 
     @staticmethod
     def first(yard):
         """The plan in which each task gives all its work to its least place by name."""
         check_yard(yard)
-        return Plan(yard, {(task, yard.places(task)[0]): yard.work(task) for task in yard.tasks()})
+        return Plan(yard, {(task, yard.places(task)[0]): work for task, work in works_of(yard).items()})
 
     @staticmethod
     def shared(yard):
         """The plan in which each task gives the same amount to each of its places."""
         check_yard(yard)
-        parts = {task: yard.work(task).over(len(yard.places(task))) for task in yard.tasks()}
-        return Plan(yard, {(task, place): parts[task] for task, place in places_of(yard)})
+        amounts = {}
+        for task, work in works_of(yard).items():
+            places = yard.places(task)
+            part = Ratio(work.top, work.bottom * len(places))
+            for place in places:
+                amounts[task, place] = part
+        return Plan(yard, amounts)
 
     @property
     def yard(self):
@@ -56,7 +67,7 @@ class Plan:
 
     def amounts(self):
         """The dict of the amounts above 0, from tuples (task, server)."""
-        return {key: self._amounts[key] for key in self._amounts}
+        return {key: amount for key, amount in self._amounts.items()}
 
     def ties(self):
         """The sorted list of the tuples (task, server) with an amount above 0."""
@@ -72,14 +83,18 @@ class Plan:
         return dict(self._loads)
 
     def __eq__(self, other):
-        return isinstance(other, Plan) and self._yard == other._yard and self._amounts == other._amounts
+        return (isinstance(other, Plan) and self._yard == other._yard
+                and self._unit == other._unit and self._parts == other._parts)
 
     def above(self, bound):
         """The cost of this plan for the hinge at a NUMBER."""
         if not is_number(bound):
             raise InvalidNumber(bound)
-        return sum_of([(load - bound) * self._yard.speed(server) for server, load in self._loads.items()
-                       if load.compare(bound) > 0])
+        number = Ratio.of(bound)
+        limit = number.top * self._unit
+        beyond = [max(0, self._gained[server] * number.bottom - speed * limit)
+                  for server, speed in speeds_of(self._yard).items()]
+        return Ratio(sum(beyond), self._unit * number.bottom)
 
     def never_dearer(self, plan):
         """Whether for every convex function the cost of this plan is at most that of another one."""
@@ -88,12 +103,15 @@ class Plan:
     def parting(self, plan):
         """The least load of this and another plan at whose hinge this one is dearer; None if there is none."""
         self._check_other(plan)
-        least = None
-        for load in list(self._loads.values()) + list(plan._loads.values()):
-            if least is None or load.compare(least) < 0:
-                if self.above(load).compare(plan.above(load)) > 0:
-                    least = load
-        return least
+        unit = common_bottom(list(self._loads.values()) + list(plan._loads.values()))
+        speeds = {}
+        for server, speed in speeds_of(self._yard).items():
+            mine = whole_parts(self._loads[server], unit)
+            theirs = whole_parts(plan._loads[server], unit)
+            speeds[mine] = speeds.get(mine, 0) + speed
+            speeds[theirs] = speeds.get(theirs, 0) - speed
+        least = least_parting(speeds)
+        return None if least is None else Ratio(least, unit)
 
     def mix(self, plan, share):
         """The mix of this plan, which has the share, and of another one, which has the rest."""
@@ -101,9 +119,15 @@ class Plan:
         if not is_amount(share) or Ratio.of(share).compare(1) > 0:
             raise InvalidShare(share)
         self._check_other(plan)
+        given = Ratio.of(share)
+        unit = lcm(self._unit, plan._unit)
+        mine = given.top * (unit // self._unit)
+        theirs = (given.bottom - given.top) * (unit // plan._unit)
         amounts = {}
-        for task, place in places_of(self._yard):
-            amounts[task, place] = self._amount_at(task, place) * share + plan._amount_at(task, place) * (1 - share)
+        for key in pairs_of(self._yard):
+            part = self._parts.get(key, 0) * mine + plan._parts.get(key, 0) * theirs
+            if part > 0:
+                amounts[key] = Ratio(part, unit * given.bottom)
         return Plan(self._yard, amounts)
 
     def __rshift__(self, other):
@@ -134,12 +158,16 @@ class Plan:
         """Whether any value is a Gift that is downhill in this plan."""
         if not self.is_possible(gift):
             return False
-        start = self._loads[gift.start]
-        goal = self._loads[gift.goal]
-        # The servers between them pass on what they get, so that their loads stay.
-        lowered = start - gift.amount.over(self._yard.speed(gift.start))
-        raised = goal + gift.amount.over(self._yard.speed(gift.goal))
-        return start.compare(goal) > 0 and lowered.compare(raised) >= 0
+        speeds = speeds_of(self._yard)
+        start_speed = speeds[gift.start]
+        goal_speed = speeds[gift.goal]
+        moved = gift.amount.top * self._unit
+        start = self._gained[gift.start] * gift.amount.bottom
+        goal = self._gained[gift.goal] * gift.amount.bottom
+        # Loads are compared without dividing by the speeds; the servers between the two pass on what they get.
+        if start * goal_speed <= goal * start_speed:
+            return False
+        return (start - moved) * goal_speed >= (goal + moved) * start_speed
 
     def _amount_at(self, task, server):
         """The amount of a task at a server, 0 if it has none there."""
@@ -147,10 +175,11 @@ class Plan:
 
     def _hindrance(self, gift):
         """The position of the first move for which a gift is not possible; None if there is none."""
+        pairs = pairs_of(self._yard)
+        least = gift.amount.top * self._unit
         for position, move in enumerate(gift.moves()):
-            if move.task not in self._yard or move.goal not in self._yard.places(move.task):
-                return position
-            if self._amount_at(move.task, move.start).compare(gift.amount) < 0:
+            given = self._parts.get((move.task, move.start), 0) * gift.amount.bottom
+            if (move.task, move.goal) not in pairs or given < least:
                 return position
         return None
 
@@ -169,45 +198,59 @@ def check_plan(plan):
 
 def places_of(yard):
     """The sorted list of all tuples of a task and one of its places."""
-    return [(task, place) for task in yard.tasks() for place in yard.places(task)]
+    return list(pairs_of(yard))
+
+
+def gains_of(plan):
+    """The dict of how much work each server of a plan gets, in whole numbers of a unit, and this unit's bottom."""
+    return plan._gained, plan._unit
 
 
 def is_amounts(yard, value):
     """Whether any value is a dict from tuples of a task and one of its places to AMOUNTS."""
     if not isinstance(value, dict):
         return False
-    return all([is_place(yard, key) and is_amount(value[key]) for key in value])
-
-
-def is_place(yard, value):
-    """Whether any value is a tuple of a task of the yard and one of its places."""
-    if not isinstance(value, tuple) or len(value) != 2:
-        return False
-    task, place = value
-    return task in yard and is_name(place) and place in yard.places(task)
+    pairs = pairs_of(yard)
+    return all([isinstance(key, tuple) and key in pairs and is_amount(amount) for key, amount in value.items()])
 
 
 def positive_amounts(yard, amounts):
     """The amounts above 0 of a dict, as Ratios, in the sequence of their sorted keys."""
     given = {}
-    for key in places_of(yard):
-        if key in amounts and Ratio.of(amounts[key]).top > 0:
-            given[key] = Ratio.of(amounts[key])
+    for key in pairs_of(yard):
+        if key in amounts:
+            amount = Ratio.of(amounts[key])
+            if amount.top > 0:
+                given[key] = amount
     return given
 
 
-def check_sums(yard, given):
-    """Raise WrongSum for the least task whose amounts, all those above 0, do not sum to its work."""
-    for task in yard.tasks():
-        parts = [given[task, place] for place in yard.places(task) if (task, place) in given]
-        if sum_of(parts) != yard.work(task):
+def gained_from(yard, parts, unit):
+    """The dict of the sums of the parts at all servers; WrongSum if those of a task do not sum to its work."""
+    works = works_of(yard)
+    spread = {task: 0 for task in works}
+    gained = {server: 0 for server in speeds_of(yard)}
+    for (task, place), part in parts.items():
+        spread[task] = spread[task] + part
+        gained[place] = gained[place] + part
+    for task, work in works.items():
+        if spread[task] * work.bottom != work.top * unit:
             raise WrongSum(task)
+    return gained
 
 
-def loads_of(yard, given):
-    """The dict of the loads that amounts make."""
-    loads = {}
-    for server in yard.servers():
-        gained = sum_of([given[task, place] for task, place in given if place == server])
-        loads[server] = gained.over(yard.speed(server))
-    return loads
+def least_parting(speeds):
+    """The least load at whose hinge the first one of two plans is dearer; None if there is none.
+
+    The dict has all loads of both plans, in whole numbers, each with the speeds of the first plan's servers that have
+    this load less those of the second one's.
+    """
+    least = None
+    speed = work = 0
+    # From the greatest load down, only what lies above a hinge counts for it.
+    for load in sorted([int(load) for load in speeds], reverse=True):
+        if work > speed * load:
+            least = load
+        speed = speed + speeds[load]
+        work = work + speeds[load] * load
+    return least

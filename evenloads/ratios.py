@@ -2,7 +2,7 @@
 
 from math import gcd, lcm
 
-from evenloads.basics import is_integer
+from evenloads.basics import is_count, is_integer
 from evenloads.errors import DividedByZero, InvalidNumber
 
 
@@ -10,9 +10,10 @@ class Ratio:
     """A fraction of two INTEGERS in lowest terms with a bottom of at least 1; it never changes."""
 
     def __init__(self, top, bottom=1):
-        if not is_integer(top):
+        # What is_integer asks is written out: nothing else is done as often.
+        if not isinstance(top, int) or isinstance(top, bool):
             raise InvalidNumber(top)
-        if not is_integer(bottom) or bottom == 0:
+        if not isinstance(bottom, int) or isinstance(bottom, bool) or bottom == 0:
             raise InvalidNumber(bottom)
         common = gcd(top, bottom) if bottom > 0 else -gcd(top, bottom)
         self._top = top // common
@@ -144,7 +145,9 @@ def is_number(value):
 
 def is_amount(value):
     """Whether any value is an AMOUNT: a NUMBER that is at least 0."""
-    return is_number(value) and Ratio.of(value).top >= 0
+    if isinstance(value, Ratio):
+        return value._top >= 0
+    return is_count(value)
 
 
 def sum_of(numbers):
@@ -152,20 +155,27 @@ def sum_of(numbers):
     ratios = [Ratio.of(number) for number in numbers]
     # With one common bottom the lowest terms are looked for once, not behind each number.
     bottom = common_bottom(ratios)
-    return Ratio(sum([ratio.top * (bottom // ratio.bottom) for ratio in ratios]), bottom)
+    return Ratio(sum([ratio._top * (bottom // ratio._bottom) for ratio in ratios]), bottom)
 
 
 def common_bottom(ratios):
     """The least INTEGER above 0 that all bottoms of a list of Ratios divide, 1 where there are none."""
     common = 1
     for ratio in ratios:
-        common = lcm(common, ratio.bottom)
+        # Most bottoms divide what is common so far.
+        if common % ratio._bottom != 0:
+            common = lcm(common, ratio._bottom)
     return common
 
 
 def whole_parts(ratio, unit):
     """How often a Ratio has the unit-th part of 1, an INTEGER; its bottom must divide the unit."""
-    return ratio.top * (unit // ratio.bottom)
+    return ratio._top * (unit // ratio._bottom)
+
+
+def all_whole_parts(ratios, unit):
+    """The dict with the same keys as a dict of Ratios to how often each one has the unit-th part of 1."""
+    return {key: ratio._top * (unit // ratio._bottom) for key, ratio in ratios.items()}
 
 
 def greatest_of(ratios):

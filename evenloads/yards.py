@@ -24,8 +24,11 @@ class Yard:
             raise TooMany("tasks", Yard.MOST_TASKS)
         # Sorted once here, so that every dict and list made of these is sorted, too.
         self._speeds = {server: speeds[server] for server in sorted_names(speeds)}
-        self._works = {task: Ratio.of(given[task][0]) for task in sorted_names(given)}
-        self._places = {task: tuple(sorted_names(given[task][1])) for task in sorted_names(given)}
+        names = sorted_names(given)
+        self._works = {task: Ratio.of(given[task][0]) for task in names}
+        self._places = {task: tuple(sorted_names(given[task][1])) for task in names}
+        # What plans ask most often: whether a server is a place of a task.
+        self._pairs = {(task, place): True for task in names for place in self._places[task]}
 
     @staticmethod
     def jobs(servers, **places):
@@ -76,7 +79,7 @@ class Yard:
         return len(self._works)
 
     def __contains__(self, x):
-        return is_name(x) and x in self._works
+        return isinstance(x, str) and x in self._works
 
     def __eq__(self, other):
         return (isinstance(other, Yard) and self._speeds == other._speeds
@@ -121,7 +124,7 @@ class Yard:
         if self._speeds != other._speeds:
             raise OtherServers(self, other)
         for task in self._works:
-            if task in other:
+            if task in other._works:
                 raise TaskTaken(task)
         mine = self._given()
         theirs = other._given()
@@ -191,7 +194,7 @@ class Yard:
         return Yard(self._speeds, {**tasks, task: (work, places)})
 
     def _check_server(self, server):
-        if not is_name(server) or server not in self._speeds:
+        if not isinstance(server, str) or server not in self._speeds:
             raise UnknownServer(server)
 
     def _check_task(self, task):
@@ -203,6 +206,21 @@ class Yard:
             raise InvalidServers(servers)
 
 
+def pairs_of(yard):
+    """The dict whose keys are all tuples of a task and one of its places, sorted; it is only read."""
+    return yard._pairs
+
+
+def speeds_of(yard):
+    """The dict of the speeds of all servers, sorted; it is only read."""
+    return yard._speeds
+
+
+def works_of(yard):
+    """The dict of the works of all tasks, sorted; it is only read."""
+    return yard._works
+
+
 def is_speed(value):
     """Whether any value is an INTEGER that a server may have as its speed."""
     return is_integer(value) and 1 <= value <= Yard.MOST_SPEED
@@ -210,7 +228,10 @@ def is_speed(value):
 
 def is_set_of(value, servers):
     """Whether any value is a list of different ones of these servers, at least one."""
-    return is_name_list(value) and len(value) > 0 and all([name in servers for name in value])
+    if not isinstance(value, (list, tuple)) or len(value) == 0:
+        return False
+    # Names first: other values may be such that no set takes them.
+    return all([isinstance(name, str) and name in servers for name in value]) and len(set(value)) == len(value)
 
 
 def is_task(value, servers):
@@ -237,15 +258,15 @@ def check_speeds(speeds):
     """Raise the error that is due if this is no dict of servers and their speeds."""
     if not is_name_dict(speeds) or len(speeds) == 0:
         raise InvalidServers(speeds)
-    for server in sorted_names(speeds):
-        if not is_speed(speeds[server]):
-            raise InvalidSpeed(server)
+    wrong = [server for server in speeds if not is_speed(speeds[server])]
+    if len(wrong) > 0:
+        raise InvalidSpeed(sorted_names(wrong)[0])
 
 
 def check_tasks(tasks, servers):
     """Raise the error that is due if this is no dict of tasks with places among these servers."""
     if not is_name_dict(tasks):
         raise InvalidTasks(tasks)
-    for name in sorted_names(tasks):
-        if not is_task(tasks[name], servers):
-            raise InvalidTask(name)
+    wrong = [name for name in tasks if not is_task(tasks[name], servers)]
+    if len(wrong) > 0:
+        raise InvalidTask(sorted_names(wrong)[0])

@@ -30,6 +30,9 @@ BARRED_NAMES = """register mro elements open input law version_info with_traceba
 BARRED_WORDS = """typing typing_extensions enum Enum IntEnum StrEnum Flag IntFlag Generic Protocol ABC ABCMeta
     namedtuple NamedTuple TypedDict TYPE_CHECKING abstractmethod""".split()
 BARRED_NODES = (ast.AsyncFunctionDef, ast.AsyncFor, ast.AsyncWith, ast.Await, ast.Div, ast.MatMult, ast.Global)
+# What is no operator that changes nothing: what makes an object, is called, or changes its object in place.
+CHANGING_METHODS = ["__call__", "__setitem__", "__iadd__", "__isub__"]
+CHANGING = ["append", "clear", "extend", "insert", "pop", "remove", "reverse", "setdefault", "update", "add", "discard"]
 BUILTIN_METHODS = """append clear copy count endswith extend find get index insert isalnum isalpha isdigit islower
     isspace isupper items join keys ljust lower lstrip partition pop remove replace reverse rfind rjust rpartition
     rsplit rstrip setdefault split splitlines startswith strip update upper values zfill bit_length title capitalize
@@ -51,9 +54,35 @@ def nodes(*kinds):
     return [(name, node) for name, _, tree in trees() for node in ast.walk(tree) if isinstance(node, kinds)]
 
 
-def scopes(tree):
-    """Tuples of each function of a file and the nodes in it."""
-    return [(node, list(ast.walk(node))) for node in ast.walk(tree) if isinstance(node, ast.FunctionDef)]
+def named_functions():
+    """The dict from names to all functions with this name; constructors have the names of their classes."""
+    found = {}
+    for _, made in nodes(ast.ClassDef):
+        for node in made.body:
+            if isinstance(node, ast.FunctionDef) and node.name == "__init__":
+                found[made.name] = [node]
+    for _, node in nodes(ast.FunctionDef):
+        if node.name != "__init__":
+            found.setdefault(node.name, []).append(node)
+    return found
+
+
+def run_by_operators():
+    """The dict of the functions that an operator or a property may run, itself included, by their names."""
+    functions = named_functions()
+    properties = [name for name, found in functions.items()
+                  if "property" in [ast.unparse(decorator) for node in found for decorator in node.decorator_list]]
+    queue = [name for name in functions if name.startswith("__") and name not in CHANGING_METHODS] + properties
+    run = {}
+    while queue:
+        name = queue.pop()
+        if name in run or name not in functions:
+            continue
+        run[name] = functions[name]
+        for function in functions[name]:
+            called = [ast.unparse(node.func).split(".")[-1] for node in ast.walk(function) if isinstance(node, ast.Call)]
+            queue.extend(word for word in called if word not in BUILTIN_METHODS)
+    return run
 
 
 def is_created(value):
@@ -118,7 +147,13 @@ class LanguageTest(unittest.TestCase):
     def test_l5_only_plain_numbers_and_strings_are_compared_beside_an_order(self):
         for name, node in nodes(ast.Call):
             if isinstance(node.func, ast.Name) and node.func.id in ("sorted", "min", "max"):
-                self.assertEqual((len(node.args), node.keywords), (1, []), (name, node.lineno))
+                if node.func.id == "max" and ast.unparse(node.args[0]) == "0":
+                    # Of two arguments one is plainly a number.
+                    self.assertEqual((len(node.args), node.keywords), (2, []), (name, node.lineno))
+                    continue
+                self.assertIn([ast.unparse(word) for word in node.keywords], [[], ["reverse=True"]],
+                              (name, node.lineno))
+                self.assertEqual(len(node.args), 1, (name, node.lineno))
                 self.assertIsInstance(node.args[0], ast.ListComp, (name, node.lineno))
                 self.assertRegex(ast.unparse(node.args[0].elt), r"\A(str|int|len)\(", (name, node.lineno))
 
@@ -135,26 +170,26 @@ class LanguageTest(unittest.TestCase):
                 self.assertRegex(ast.unparse(methods["__iter__"].body[0]), r"\Araise TypeError\('", made.name)
         self.assertEqual(found, ["Plan"])
 
-    def test_l5_only_what_a_function_created_is_changed_but_in_flows(self):
-        for name, _, tree in trees():
-            if name == "flows.py":
-                continue
-            for function, inside in scopes(tree):
-                created = {}
-                for node in inside:
-                    for target in node.targets if isinstance(node, ast.Assign) else []:
-                        if isinstance(target, ast.Name):
-                            created.setdefault(target.id, []).append(is_created(node.value))
-                        self.assertTrue(not isinstance(target, ast.Attribute) or function.name == "__init__",
-                                        (name, node.lineno))
-                changed = [node.value for node in inside
-                           if isinstance(node, ast.Subscript) and isinstance(node.ctx, (ast.Store, ast.Del))]
-                changed.extend(node.func.value for node in inside if isinstance(node, ast.Call)
-                               and isinstance(node.func, ast.Attribute) and node.func.attr in ("append", "pop"))
-                for value in changed:
-                    base = value.value if isinstance(value, ast.Subscript) else value
-                    self.assertIsInstance(base, ast.Name, (name, value.lineno))
-                    self.assertTrue(created[base.id] and all(created[base.id]), (name, value.lineno))
+    def test_l5_operators_and_properties_change_only_what_they_created(self):
+        run = run_by_operators()
+        for word in ("__add__", "__or__", "__rshift__", "__eq__", "is_whole", "top", "Plan", "check_yard", "sum_of"):
+            self.assertIn(word, run)
+        for name, function in [(name, function) for name, found in run.items() for function in found]:
+            inside, created = list(ast.walk(function)), {}
+            for node in inside:
+                for target in node.targets if isinstance(node, ast.Assign) else []:
+                    if isinstance(target, ast.Name):
+                        created.setdefault(target.id, []).append(is_created(node.value))
+                    self.assertTrue(not isinstance(target, ast.Attribute) or function.name == "__init__",
+                                    (name, node.lineno))
+            changed = [node.value for node in inside
+                       if isinstance(node, ast.Subscript) and isinstance(node.ctx, (ast.Store, ast.Del))]
+            changed.extend(node.func.value for node in inside if isinstance(node, ast.Call)
+                           and isinstance(node.func, ast.Attribute) and node.func.attr in CHANGING)
+            for value in changed:
+                base = value.value if isinstance(value, ast.Subscript) else value
+                self.assertIsInstance(base, ast.Name, (name, value.lineno))
+                self.assertTrue(created[base.id] and all(created[base.id]), (name, value.lineno))
 
     def test_l7_lists_instead_of_generator_expressions(self):
         for name, node in nodes(ast.GeneratorExp):

@@ -5,6 +5,7 @@ import random
 import unittest
 from fractions import Fraction
 
+from evenloads.costs import Cost
 from evenloads.errors import InvalidNumber, InvalidPlan, InvalidShare, OtherYard
 from evenloads.plans import Plan
 from evenloads.ratios import Ratio
@@ -59,6 +60,43 @@ class AboveTest(Case):
             for bound in bounds:
                 wanted = sum(plan.yard.speed(server) * max(load - bound, 0) for server, load in loads.items())
                 self.assertEqual(exact(plan.above(ratio(bound))), wanted)
+
+
+class LongNumbersTest(Case):
+
+    def plans(self):
+        """Plans whose numbers have unlike bottoms of many digits."""
+        chance = random.Random(35)
+        for yard in great_yards(chance)[4:]:
+            yield Plan.first(yard), Plan.shared(yard), drawn_plan(yard, chance)
+
+    def test_sums_and_comparisons_are_exact(self):
+        for first, shared, drawn in self.plans():
+            for one, other in itertools.permutations([first, shared, drawn], 2):
+                self.assertIs(one.never_dearer(other), is_never_dearer(one, other))
+                found = one.parting(other)
+                loads = sorted({*loads_of(one).values(), *loads_of(other).values()})
+                dearer = [load for load in loads if self.cost(one, load) > self.cost(other, load)]
+                self.assertEqual(found, ratio(dearer[0]) if dearer else None)
+                self.assertFalse(one == other)
+            for bound in [*shared.loads().values(), Ratio(1, LONG), Ratio(LONG, LONG - 2), 0, -LONG]:
+                self.assertEqual(exact(drawn.above(bound)), self.cost(drawn, exact(bound)))
+                self.assertEqual(exact(Cost.hinge(bound).of_plan(drawn)), self.cost(drawn, exact(bound)))
+
+    def test_mixes_are_exact(self):
+        share = Fraction(LONG - 3, LONG)
+        for first, shared, drawn in self.plans():
+            mixed = shared.mix(drawn, ratio(share))
+            for task in mixed.yard.tasks():
+                for place in mixed.yard.places(task):
+                    self.assertEqual(exact(mixed[task, place]),
+                                     share * exact(shared[task, place]) + (1 - share) * exact(drawn[task, place]))
+            self.assertEqual({server: exact(load) for server, load in mixed.loads().items()}, loads_of(mixed))
+            self.assertTrue(shared.mix(shared, ratio(share)) == shared)
+            self.assertFalse(mixed == shared or mixed == drawn or mixed == first)
+
+    def cost(self, plan, bound):
+        return sum(plan.yard.speed(server) * max(load - bound, 0) for server, load in loads_of(plan).items())
 
 
 class NeverDearerTest(Case):
