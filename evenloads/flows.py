@@ -28,7 +28,21 @@ class Flow:
         for task in tasks:
             for place in self._places[task]:
                 starts[place] = True
-        return sorted_names(reached(list(starts), self._held, self._places))
+        return self.ahead_of(list(starts))
+
+    def ahead_of(self, starts):
+        """The sorted list of some servers and of those to which chains lead from them."""
+        return sorted_names(reached(starts, self._held, self._places))
+
+    def behind(self, task):
+        """The sorted list of the servers that hold a task, and of those from which chains lead to them."""
+        found = {server: True for server in self._held if task in self._held[server]}
+        further = list(found)
+        while len(further) > 0:
+            further = [server for server in self._held if server not in found and self._leads_to(server, found)]
+            for server in further:
+                found[server] = True
+        return sorted_names(found)
 
     def draw_in(self, task, server):
         """Bring as much of a task to one of its places as the others can make room for.
@@ -63,6 +77,10 @@ class Flow:
     def amounts(self):
         """The dict of the amounts above 0, from tuples (task, server) to Ratios."""
         return {(task, server): self.amount_at(task, server) for server in self._held for task in self._held[server]}
+
+    def _leads_to(self, server, goals):
+        """Whether a task that a server holds has one of these servers among its places."""
+        return any([place in goals for task in self._held[server] for place in self._places[task]])
 
     def _place(self, task, work):
         """Place as much of a work as there is room for, and tell what is left."""

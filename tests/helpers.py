@@ -4,6 +4,7 @@ import itertools
 import string
 import unittest
 
+from evenloads.jobs import Assignment
 from evenloads.moves import Gift, Move
 from evenloads.plans import Plan
 from evenloads.ratios import Ratio
@@ -34,6 +35,8 @@ NO_SPEEDS = NO_NUMBERS + [0, -1, 1001, 10 ** 29, Ratio(1), Ratio(3, 2), Ratio(10
 OTHERS = STRANGE + ["", "a", 0, 1, Ratio(1), [], ["a"], (), ("x", "a"), {}, {"a": 1}, Move("x", "a", "b")]
 NO_YARDS = OTHERS + [Yard, Plan, Plan(Yard({"a": 1}), {}), Gift(1, Move("x", "a", "b")), {"x": (1, ["a"])}]
 NO_PLANS = OTHERS + [Yard, Plan, Yard({"a": 1}), Gift(1, Move("x", "a", "b")), {("x", "a"): 1}]
+NO_ASSIGNMENTS = OTHERS + [Assignment, Yard.jobs(["a"], p=["a"]), Plan(Yard.jobs(["a"], p=["a"]), {("p", "a"): 1}),
+                           {"p": "a"}, [Assignment(Yard.jobs(["a"], p=["a"]), {"p": "a"})]]
 NO_GIFTS = OTHERS + [Gift, Yard({"a": 1}), Plan(Yard({"a": 1}), {}), [Move("x", "a", "b")],
                      (Gift(1, Move("x", "a", "b")),)]
 
@@ -47,6 +50,19 @@ CHANGES = [lambda yard: yard.with_work("x", 1), lambda yard: yard.with_place("z"
            lambda yard: yard - "y", lambda yard: yard.with_speed("d", 1), lambda yard: yard.scaled(Ratio(3, 2)),
            lambda yard: yard.without_place("z", "c"),
            lambda yard: yard | Yard({"a": 1, "b": 1, "c": 2, "d": 1}, {"y": (4, ["b", "d"])})]
+
+
+# The same from the whole yard below on, such that the yards stay whole.
+JOB_CHANGES = [lambda yard: yard.with_place("r", "b"), lambda yard: yard + ("s", 1, ["c"]), lambda yard: yard - "p",
+               lambda yard: yard.with_server("d", 1, "q", "s"), lambda yard: yard.without_place("q", "a"),
+               lambda yard: yard | Yard.jobs(list("abcd"), t=["a"], u=["a", "b"], v=["a", "d"]),
+               lambda yard: yard.with_work("s", 5).with_work("s", Ratio(1)),
+               lambda yard: yard.with_speed("a", 2).with_speed("a", 1), lambda yard: yard.scaled(1)]
+
+
+def jobs_example():
+    """A whole yard with three servers and four jobs."""
+    return Yard.jobs(["a", "b", "c"], p=["a"], q=["a", "b"], r=["a", "c"], o=["b", "a", "c"])
 
 
 def example():
@@ -87,6 +103,11 @@ def no_sets(servers):
     for name in NO_NAMES + ["q", "x", "zz", server + last]:
         found = found + [[name], (server, name), [name, server]]
     return found
+
+
+# No sets of servers of the document's example, of whatever kind; the empty list is one.
+NO_SETS = no_lists() + [["a", "a"], ("b", "a", "b"), ["d"], ["x"], ["ab"], [["a"]], [("a", "b")], {"a"}, "ab",
+                        ["a", "b", "c", "d"], ["a", ["b"]]] + [["a", value] for value in NO_NAMES]
 
 
 class Case(unittest.TestCase):

@@ -41,6 +41,21 @@ def drawn_yard(chance, servers=5, tasks=6, speed=4):
                          for task in names("t", chance.randint(0, tasks))})
 
 
+def even_yard(chance):
+    """A yard whose best loads are mostly equal: works and places are those of a plan with equal loads."""
+    servers = names("s", chance.randint(2, 5))
+    tasks, works, places = names("t", chance.randint(2, 6)), {}, {}
+    for server in servers:
+        shares = chance.sample(tasks, chance.randint(1, min(3, len(tasks))))
+        for task in shares:
+            works[task] = works.get(task, Ratio(0)) + Ratio(6, len(shares))
+            places.setdefault(task, []).append(server)
+    for task in list(works):
+        if chance.random() < 0.3:
+            places[task] = sorted({*places[task], chance.choice(servers)})
+    return Yard({server: 1 for server in servers}, {task: (works[task], places[task]) for task in works})
+
+
 def drawn_plan(yard, chance):
     """A plan whose tasks divide their works at random, often without some places."""
     amounts = {}
@@ -85,6 +100,33 @@ def in_time(case, call, /, *args, **named):
     found = call(*args, **named)
     case.assertLess(time.perf_counter() - begun, 8, call)
     return found
+
+
+def drawn_jobs(chance, servers=4, jobs=5):
+    """A whole yard with at most these many servers and jobs."""
+    chosen = names("s", chance.randint(1, servers))
+    return Yard.jobs(chosen, **{job: chance.sample(chosen, chance.randint(1, len(chosen)))
+                                for job in names("j", chance.randint(0, jobs))})
+
+
+def great_jobs(chance):
+    """Whole yards at the limits: twelve servers and 24 jobs with many or few places."""
+    chosen = names("s", 12)
+    return [Yard.jobs(chosen, **{job: chance.sample(chosen, chance.randint(1, most)) for job in names("j", 24)})
+            for most in (12, 12, 4, 4, 2, 2)]
+
+
+def all_spots(yard):
+    """All dicts that put each job of a yard at one of its places."""
+    jobs = yard.tasks()
+    for spots in itertools.product(*[yard.places(job) for job in jobs]):
+        yield dict(zip(jobs, spots))
+
+
+def drawn_spots(yard, chance):
+    """One of them, drawn; often with many jobs at few servers."""
+    first = chance.random() < 0.4
+    return {job: yard.places(job)[0] if first else chance.choice(yard.places(job)) for job in yard.tasks()}
 
 
 def weight(yard, servers):

@@ -23,6 +23,10 @@ FUNCTIONS = {
               "claim": "yard task servers", "cap": "yard task server servers", "lift": "yard task server servers",
               "capping_set": "yard task server", "lifting_set": "yard task server", "sure_places": "yard",
               "spare_places": "yard", "plan_giving": "yard task server amount"},
+    "ties": {"tight_set": "yard server", "is_tight": "yard servers", "is_ring": "plan value", "ring": "plan",
+             "thin": "plan"},
+    "curves": {"payers": "yard task", "relieved": "yard task"},
+    "changes": {"effects": "yard later", "who_pays": "yard"},
 }
 
 # Methods by what kind of attribute of the class they are, each with its parameters behind self.
@@ -66,6 +70,16 @@ CLASSES = {
                   "__eq__": "other"},
         "static": {"hinge": "bound"},
         "property": []}},
+    "curves": {"Curve": {
+        "plain": {"__init__": "yard task", "__call__": "work", "risers": "work", "fallers": "work", "breaks": "",
+                  "greatest_work": "bound"},
+        "static": {},
+        "property": ["yard", "task"]}},
+    "jobs": {"Assignment": {
+        "plain": {"__init__": "yard spots", "__getitem__": "at", "spots": "", "counts": "", "jobs_at": "server",
+                  "steps": "", "is_way": "value", "taken": "moves", "as_plan": "", "__eq__": "other"},
+        "static": {},
+        "property": ["yard"]}},
     "answers": {
         "Answer": {"plain": {"__init__": "about", "told": ""}, "static": {}, "property": []},
         "Shown": {"plain": {"__init__": "about layout", "told": ""}, "static": {}, "property": []},

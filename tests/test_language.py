@@ -168,7 +168,7 @@ class LanguageTest(unittest.TestCase):
             if "__getitem__" in methods:
                 found.append(made.name)
                 self.assertRegex(ast.unparse(methods["__iter__"].body[0]), r"\Araise TypeError\('", made.name)
-        self.assertEqual(found, ["Plan"])
+        self.assertEqual(found, ["Assignment", "Plan"])
 
     def test_l5_operators_and_properties_change_only_what_they_created(self):
         run = run_by_operators()

@@ -7,12 +7,10 @@ from evenloads.errors import UnknownTask
 from evenloads.ratios import Ratio
 from evenloads.spans import cap, capping_set, claim, least_places, lift, lifting_set, plan_giving, room, span
 from evenloads.spans import spare_places, sure_places
-from helpers import NO_NAMES, NO_NUMBERS, NO_SERVERS, NO_TASKS, NO_YARDS, Case, example, no_lists
+from helpers import NO_NUMBERS, NO_SERVERS, NO_SETS, NO_TASKS, NO_YARDS, Case, example
 
 # What each function takes behind the yard.
 PLACED = [(span, ()), (capping_set, ()), (lifting_set, ()), (plan_giving, (1,)), (cap, (["a"],)), (lift, (["a"],))]
-NO_SETS = no_lists() + [["a", "a"], ("b", "a", "b"), ["d"], ["x"], ["ab"], [["a"]], [("a", "b")], {"a"}, "ab",
-                        ["a", "b", "c", "d"], ["a", ["b"]]] + [["a", value] for value in NO_NAMES]
 WRONG_PLACES = [("x", "c"), ("y", "a"), ("z", "a"), ("z", "b")]
 
 

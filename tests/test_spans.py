@@ -12,7 +12,7 @@ from evenloads.spans import cap, capping_set, claim, least_places, lift, lifting
 from evenloads.spans import spare_places, sure_places
 from evenloads.yards import Yard
 from helpers import CHANGES, Case, example, names
-from oracles import drawn_plan, drawn_yard, exact, great_yards, in_time, ratio, searched_cap, searched_claim
+from oracles import drawn_plan, drawn_yard, even_yard, exact, great_yards, in_time, ratio, searched_cap, searched_claim
 from oracles import searched_least_places, searched_lift, searched_loads, searched_room, searched_span, subsets
 
 LONG = 10 ** 30 - 1
@@ -22,21 +22,6 @@ LITTLE = Ratio(1, LONG)
 def square():
     """Two servers that two tasks share, and a third server by itself."""
     return Yard({"a": 1, "b": 1, "c": 1}, {"x": (2, ["a", "b"]), "y": (1, ["a", "b"]), "z": (1, ["b", "c"])})
-
-
-def level_yard(chance):
-    """A yard whose best loads are mostly equal: works and places are those of a plan with equal loads."""
-    servers = names("s", chance.randint(2, 5))
-    tasks, works, places = names("t", chance.randint(2, 6)), {}, {}
-    for server in servers:
-        shares = chance.sample(tasks, chance.randint(1, min(3, len(tasks))))
-        for task in shares:
-            works[task] = works.get(task, Ratio(0)) + Ratio(6, len(shares))
-            places.setdefault(task, []).append(server)
-    for task in list(works):
-        if chance.random() < 0.3:
-            places[task] = sorted({*places[task], chance.choice(servers)})
-    return Yard({server: 1 for server in servers}, {task: (works[task], places[task]) for task in works})
 
 
 class SpansCase(Case):
@@ -171,7 +156,7 @@ class SpanTest(SpansCase):
         chance = random.Random(82)
         inner = 0
         for _ in range(50):
-            yard = level_yard(chance)
+            yard = even_yard(chance)
             self.holds(yard)
             for task in yard.tasks():
                 for server in yard.places(task):
@@ -182,7 +167,7 @@ class SpanTest(SpansCase):
     def test_no_best_plan_is_beyond(self):
         chance = random.Random(83)
         for _ in range(60):
-            yard = level_yard(chance)
+            yard = even_yard(chance)
             plan = best_plan(yard)
             for task in yard.tasks():
                 for server in yard.places(task):
@@ -285,7 +270,7 @@ class SetsTest(SpansCase):
     def test_all_sets_in_any_sequence(self):
         chance = random.Random(84)
         for _ in range(25):
-            yard = chance.choice([drawn_yard, level_yard])(chance)
+            yard = chance.choice([drawn_yard, even_yard])(chance)
             loads = searched_loads(yard)
             for servers in subsets(yard.servers(), least=0):
                 chance.shuffle(servers)
@@ -302,7 +287,7 @@ class SetsTest(SpansCase):
     def test_caps_and_lifts_hold_for_best_plans(self):
         chance = random.Random(85)
         for _ in range(20):
-            yard = level_yard(chance)
+            yard = even_yard(chance)
             plan = best_plan(yard)
             for servers in subsets(yard.servers(), least=0):
                 for task in yard.tasks():
