@@ -38,11 +38,16 @@ def is_server_set(yard, value):
 
 def bounds_of(yard, bounds):
     """The dict of the bounds of all servers, Ratios; InvalidBounds for any value that tells none."""
+    if not is_bounds(yard, bounds):
+        raise InvalidBounds(bounds)
+    if isinstance(bounds, dict):
+        return {server: Ratio.of(bounds[server]) for server in yard.servers()}
+    return {server: Ratio.of(bounds) for server in yard.servers()}
+
+
+def is_bounds(yard, value):
+    """Whether any value is a dict from all servers, and no other keys, to AMOUNTS, or a single AMOUNT."""
+    if not isinstance(value, dict):
+        return is_amount(value)
     servers = yard.servers()
-    if is_amount(bounds):
-        return {server: Ratio.of(bounds) for server in servers}
-    if not isinstance(bounds, dict) or len(bounds) != len(servers):
-        raise InvalidBounds(bounds)
-    if not all([server in bounds and is_amount(bounds[server]) for server in servers]):
-        raise InvalidBounds(bounds)
-    return {server: Ratio.of(bounds[server]) for server in servers}
+    return len(value) == len(servers) and all([server in value and is_amount(value[server]) for server in servers])

@@ -1,6 +1,5 @@
 """Assignments: whole jobs, each at one of its places."""
 
-from evenloads.basics import is_name
 from evenloads.checks import check_server, check_task, check_yard
 from evenloads.errors import InvalidAssignment, InvalidMoves, NotWhole
 from evenloads.moves import Move, is_chain
@@ -94,4 +93,4 @@ def is_spots(yard, value):
     """Whether any value is a dict from all tasks of a yard, and no other keys, to places of theirs."""
     if not isinstance(value, dict) or len(value) != len(yard):
         return False
-    return all([task in value and is_name(value[task]) and value[task] in yard.places(task) for task in yard.tasks()])
+    return all([task in value and value[task] in yard.places(task) for task in yard.tasks()])

@@ -159,15 +159,12 @@ class Plan:
         if not self.is_possible(gift):
             return False
         speeds = speeds_of(self._yard)
-        start_speed = speeds[gift.start]
-        goal_speed = speeds[gift.goal]
         moved = gift.amount.top * self._unit
-        start = self._gained[gift.start] * gift.amount.bottom
-        goal = self._gained[gift.goal] * gift.amount.bottom
-        # Loads are compared without dividing by the speeds; the servers between the two pass on what they get.
-        if start * goal_speed <= goal * start_speed:
-            return False
-        return (start - moved) * goal_speed >= (goal + moved) * start_speed
+        # As an amount is above 0, the start has more ahead of a gift behind which it has no less. Loads are compared
+        # without dividing by the speeds; the servers between the two pass on what they get.
+        lowered = self._gained[gift.start] * gift.amount.bottom - moved
+        raised = self._gained[gift.goal] * gift.amount.bottom + moved
+        return lowered * speeds[gift.goal] >= raised * speeds[gift.start]
 
     def _amount_at(self, task, server):
         """The amount of a task at a server, 0 if it has none there."""

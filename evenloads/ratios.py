@@ -29,8 +29,8 @@ class Ratio:
         """The Ratio whose str is this text."""
         if not isinstance(text, str):
             raise InvalidNumber(text)
-        number = loosely_read(text)
-        if number is None or str(number) != text:
+        number = written(text)
+        if number is None:
             raise InvalidNumber(text)
         return number
 
@@ -117,6 +117,12 @@ class Ratio:
 
     def __repr__(self):
         return f"Ratio({self._top}, {self._bottom})"
+
+
+def written(text):
+    """The Ratio whose str is this string; None if there is none."""
+    number = loosely_read(text)
+    return number if number is not None and str(number) == text else None
 
 
 def loosely_read(text):

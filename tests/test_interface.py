@@ -27,6 +27,12 @@ FUNCTIONS = {
              "thin": "plan"},
     "curves": {"payers": "yard task", "relieved": "yard task"},
     "changes": {"effects": "yard later", "who_pays": "yard"},
+    "evening": {"best_assignment": "yard", "best_counts": "yard", "is_even": "assignment", "steep_way": "assignment",
+                "ways_to_best": "assignment", "heights": "assignment", "is_heights": "assignment value",
+                "possible_places": "yard", "certain_places": "yard", "distance": "assignment",
+                "nearest_best": "assignment"},
+    "texts": {"yard_text": "yard", "read_yard": "text"},
+    "judge": {"is_claim": "value", "certificate_of": "claim", "is_certificate": "claim value"},
 }
 
 # Methods by what kind of attribute of the class they are, each with its parameters behind self.
@@ -80,6 +86,13 @@ CLASSES = {
                   "steps": "", "is_way": "value", "taken": "moves", "as_plan": "", "__eq__": "other"},
         "static": {},
         "property": ["yard"]}},
+    "board": {"Board": {
+        "plain": {"__init__": "yard", "__getitem__": "at", "__setitem__": "at worth", "__iadd__": "other",
+                  "__isub__": "other", "allow": "task server", "forbid": "task server",
+                  "add_server": "server speed tasks", "set_speed": "server speed", "undo": "", "copy": "",
+                  "tried": "action", "do": "command", "do_all": "commands", "attempt": "commands"},
+        "static": {},
+        "property": ["yard", "plan", "changes"]}},
     "answers": {
         "Answer": {"plain": {"__init__": "about", "told": ""}, "static": {}, "property": []},
         "Shown": {"plain": {"__init__": "about layout", "told": ""}, "static": {}, "property": []},

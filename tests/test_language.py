@@ -168,7 +168,7 @@ class LanguageTest(unittest.TestCase):
             if "__getitem__" in methods:
                 found.append(made.name)
                 self.assertRegex(ast.unparse(methods["__iter__"].body[0]), r"\Araise TypeError\('", made.name)
-        self.assertEqual(found, ["Assignment", "Plan"])
+        self.assertEqual(found, ["Board", "Assignment", "Plan"])
 
     def test_l5_operators_and_properties_change_only_what_they_created(self):
         run = run_by_operators()
@@ -296,6 +296,8 @@ class LanguageTest(unittest.TestCase):
         made = [node.name for _, node in nodes(ast.FunctionDef)
                 if any(isinstance(inner, (ast.Yield, ast.YieldFrom)) for inner in ast.walk(node))]
         iterated = [ast.unparse(node.iter) for _, node in nodes(ast.For, ast.comprehension)]
+        iterated.extend(ast.unparse(node.args[0]) for _, node in nodes(ast.Call)
+                        if ast.unparse(node.func) in ("list", "tuple", "sum", "any", "all") and node.args)
         for name, node in nodes(ast.Call):
             if ast.unparse(node.func).split(".")[-1] in made:
                 self.assertIn(ast.unparse(node), iterated, (name, node.lineno))
