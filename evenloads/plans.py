@@ -6,7 +6,8 @@ from evenloads.checks import check_server, check_task, check_yard
 from evenloads.errors import Impossible, InvalidAmounts, InvalidGift, InvalidNumber, InvalidPlan, InvalidShare
 from evenloads.errors import OtherYard, WrongSum
 from evenloads.moves import Gift
-from evenloads.ratios import Ratio, all_whole_parts, common_bottom, greatest_of, is_amount, is_number, whole_parts
+from evenloads.ratios import Ratio, all_whole_parts, common_bottom, greatest_of, is_amount, is_number
+from evenloads.ratios import positive_ratios, whole_parts
 from evenloads.yards import pairs_of, speeds_of, works_of
 
 
@@ -18,7 +19,7 @@ class Plan:
         if not is_amounts(yard, amounts):
             raise InvalidAmounts(amounts)
         self._yard = yard
-        self._amounts = positive_amounts(yard, amounts)
+        self._amounts = positive_ratios(amounts, pairs_of(yard))
         # The same in whole numbers of one small unit, which sums and comparisons are much faster with.
         self._unit = common_bottom(list(self._amounts.values()))
         self._parts = all_whole_parts(self._amounts, self._unit)
@@ -136,7 +137,7 @@ class Plan:
         position = self._hindrance(other)
         if position is not None:
             raise Impossible(position)
-        amounts = {key: self._amounts[key] for key in self._amounts}
+        amounts = {key: amount for key, amount in self._amounts.items()}
         for move in other.moves():
             amounts[move.task, move.start] = amounts[move.task, move.start] - other.amount
             amounts[move.task, move.goal] = amounts.get((move.task, move.goal), Ratio(0)) + other.amount
@@ -145,9 +146,9 @@ class Plan:
     def __or__(self, other):
         if not isinstance(other, Plan):
             raise InvalidPlan(other)
-        amounts = {key: self._amounts[key] for key in self._amounts}
-        for key in other._amounts:
-            amounts[key] = other._amounts[key]
+        amounts = {key: amount for key, amount in self._amounts.items()}
+        for key, amount in other._amounts.items():
+            amounts[key] = amount
         return Plan(self._yard | other._yard, amounts)
 
     def is_possible(self, gift):
@@ -209,17 +210,6 @@ def is_amounts(yard, value):
         return False
     pairs = pairs_of(yard)
     return all([isinstance(key, tuple) and key in pairs and is_amount(amount) for key, amount in value.items()])
-
-
-def positive_amounts(yard, amounts):
-    """The amounts above 0 of a dict, as Ratios, in the sequence of their sorted keys."""
-    given = {}
-    for key in pairs_of(yard):
-        if key in amounts:
-            amount = Ratio.of(amounts[key])
-            if amount.top > 0:
-                given[key] = amount
-    return given
 
 
 def gained_from(yard, parts, unit):

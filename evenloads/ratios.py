@@ -184,6 +184,18 @@ def all_whole_parts(ratios, unit):
     return {key: ratio._top * (unit // ratio._bottom) for key, ratio in ratios.items()}
 
 
+def positive_ratios(amounts, keys):
+    """The dict from those of some keys, in their sequence, that have AMOUNTS above 0 in a dict to these as Ratios."""
+    found = {}
+    for key in keys:
+        if key in amounts:
+            amount = amounts[key]
+            ratio = amount if isinstance(amount, Ratio) else Ratio(amount)
+            if ratio._top > 0:
+                found[key] = ratio
+    return found
+
+
 def greatest_of(ratios):
     """The greatest one of a list of Ratios, at least one."""
     greatest = ratios[0]
